@@ -1,0 +1,1 @@
+"""Quits: a house between traders."""
