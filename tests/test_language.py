@@ -27,6 +27,11 @@ UNUSED_WORDS = re.compile(
     r"\b(type|typing|typing_extensions|enum|Enum|IntEnum|StrEnum|Flag|IntFlag|Generic|Protocol|ABC|ABCMeta|namedtuple"
     r"|NamedTuple|TypedDict|TYPE_CHECKING|abstractmethod)\b|dataclass|overload|contextmanager"
 )
+CHANGES = set("append clear extend insert pop remove reverse setdefault update".split())
+KEYWORDS = {
+    "sorted": ("key", "reverse"), "min": ("key", "default"), "max": ("key", "default"), "sum": ("start",),
+    "enumerate": ("start",), "zip": ("strict",),
+}
 SPECIAL_METHODS = set("__init__ __eq__ __repr__ __str__ __len__".split())
 PLAIN_NAME = re.compile(r"[A-Za-z][A-Za-z0-9_]*\Z")
 FILE_NAME = re.compile(r"([a-z][a-z0-9_]*|__init__)\.py\Z")
@@ -164,6 +169,83 @@ def name_faults(node, methods):
             yield "L25 " + node.func.attr
 
 
+def bound_locals(function):
+    for node in ast.walk(function):
+        if isinstance(node, ast.arg):
+            yield node.lineno, node.arg
+        elif isinstance(node, ast.Name) and isinstance(node.ctx, ast.Store):
+            yield node.lineno, node.id
+
+
+def local_faults(tree):
+    taken = {node.name for node in tree.body if isinstance(node, ast.ClassDef)}
+    for node in tree.body:
+        if isinstance(node, ast.ImportFrom):
+            taken |= {alias.asname or alias.name for alias in node.names}
+    functions = [node for node in ast.walk(tree) if isinstance(node, (ast.FunctionDef, ast.Lambda))]
+    for function in functions:
+        for row, name in bound_locals(function):
+            if name in taken:
+                yield row, "L15 a local called like a class or an import: " + name
+
+
+def is_walk(node):
+    if not isinstance(node, ast.Call):
+        return False
+    if isinstance(node.func, ast.Attribute):
+        return node.func.attr in ("items", "keys", "values")
+    return isinstance(node.func, ast.Name) and node.func.id in ("zip", "enumerate", "reversed", "range")
+
+
+def walk_faults(tree):
+    allowed = set()
+    for node in ast.walk(tree):
+        if isinstance(node, (ast.For, ast.comprehension)):
+            allowed.add(node.iter)
+        elif isinstance(node, ast.Call) and isinstance(node.func, ast.Name) and node.args:
+            if node.func.id in "list tuple dict sorted sum any all enumerate zip min max".split():
+                allowed.add(node.args[0])
+    for node in ast.walk(tree):
+        if is_walk(node) and node not in allowed:
+            yield node.lineno, "L23 a walk that is kept"
+        if isinstance(node, ast.For):
+            inner = node.iter
+            if is_walk(inner) and isinstance(inner.func, ast.Name) and inner.args:
+                inner = inner.args[0]
+            yield from change_faults(node, ast.unparse(inner))
+
+
+def change_faults(loop, walked):
+    for node in ast.walk(ast.Module(loop.body, [])):
+        changed = None
+        if isinstance(node, ast.Subscript) and isinstance(node.ctx, ast.Store):
+            changed = node.value
+        elif isinstance(node, ast.Call) and isinstance(node.func, ast.Attribute) and node.func.attr in CHANGES:
+            changed = node.func.value
+        if changed is not None and ast.unparse(changed) == walked:
+            yield node.lineno, "L23 what a loop walks is changed in it"
+
+
+def call_faults(node):
+    if isinstance(node, (ast.Set, ast.SetComp)):
+        yield "L24 a set"
+    if isinstance(node, ast.Call) and isinstance(node.func, ast.Name) and node.func.id in ("set", "frozenset"):
+        yield "L24 a set"
+    if isinstance(node, ast.Call) and node.keywords:
+        name = node.func.id if isinstance(node.func, ast.Name) else ""
+        for keyword in node.keywords:
+            if hasattr(builtins, name) and keyword.arg not in KEYWORDS.get(name, ()):
+                yield "L22 a keyword at " + name
+    if isinstance(node, ast.FunctionDef) and (node.returns or any(arg.annotation for arg in node.args.args)):
+        yield "L21 an annotation"
+
+
+def values_of(tree):
+    return {
+        node.attr for node in ast.walk(tree) if isinstance(node, ast.Attribute) and isinstance(node.ctx, ast.Store)
+    }
+
+
 def methods_of(tree):
     classes = [node for node in tree.body if isinstance(node, ast.ClassDef)]
     return {part.name for made in classes for part in made.body if isinstance(part, ast.FunctionDef)}
@@ -172,9 +254,10 @@ def methods_of(tree):
 def faults(text, methods=()):
     tree = ast.parse(text)
     found = list(text_faults(text)) + list(top_faults(tree)) + list(import_faults(tree))
+    found += list(local_faults(tree)) + list(walk_faults(tree))
     for node in ast.walk(tree):
         told = list(statement_faults(node)) + list(definition_faults(node)) + list(expression_faults(node))
-        told += list(name_faults(node, methods))
+        told += list(name_faults(node, methods)) + list(call_faults(node))
         found.extend((getattr(node, "lineno", 0), words) for words in told)
     return found
 
@@ -208,6 +291,14 @@ class PackageTest(unittest.TestCase):
         for name, text in self.texts.items():
             with self.subTest(name):
                 self.assertEqual(faults(text, methods), [])
+
+    def test_no_name_is_a_method_and_a_value(self):
+        methods = set().union(*(methods_of(tree) for tree in self.trees.values()))
+        values = set().union(*(values_of(tree) for tree in self.trees.values()))
+        self.assertEqual(methods & values, set())
+        own = {name for kind in (str, int, list, tuple, dict, set, frozenset, bytes) for name in dir(kind)}
+        self.assertEqual((methods - SPECIAL_METHODS) & own, set())
+        self.assertEqual(values & own, set())
 
     def test_names_are_drawn_from_where_they_are_defined(self):
         for name, tree in self.trees.items():
@@ -245,9 +336,16 @@ class RulesTest(unittest.TestCase):
             ("L14", "K = '\u00e4'\n"),
             ("L15", "def f(sum):\n    return sum\n"),
             ("L15", "K = 1\nK = 2\n"),
+            ("L15", "from quits.errors import NoPart\n\n\ndef f(NoPart):\n    return NoPart\n"),
             ("L17", "# a type\n"),
             ("L19", "def f(x):\n    raise x\n"),
             ("L20", "def f(x, y):\n    return x is y\n"),
+            ("L21", "def f(x: int):\n    return x\n"),
+            ("L22", "def f(x):\n    return int(x, base=2)\n"),
+            ("L23", "def f(x):\n    y = range(x)\n    return y\n"),
+            ("L23", "def f(x):\n    for k, y in enumerate(x):\n        x[k] = y\n"),
+            ("L23", "def f(x):\n    for y in x:\n        x.append(y)\n"),
+            ("L24", "def f(x):\n    return set(x)\n"),
             ("L25", "def f(x):\n    return x.sort()\n"),
             ("L27", "def f(n):\n    return 2 ** n\n"),
         ):
