@@ -69,3 +69,35 @@ def is_part(one):
         return False
     made = Fraction(one[0], one[1])
     return (made.numerator, made.denominator) == one
+
+
+def as_part(made):
+    made = Fraction(made)
+    return (made.numerator, made.denominator)
+
+
+def paid_by_hand(sheet, lays):
+    """The words of promise 16, with Python's own fractions."""
+    told = []
+    for payer, payee, rank, amount in sheet:
+        ahead = sum(due[3] for due in sheet if due[0] == payer and due[2] < rank)
+        here = sum(due[3] for due in sheet if due[0] == payer and due[2] == rank)
+        laid = min(max(lays[payer] - ahead, Fraction(0)), Fraction(here))
+        told.append(amount * laid / here if amount > 0 else Fraction(0))
+    return told
+
+
+def got_by_hand(sheet, lays):
+    sums = paid_by_hand(sheet, lays)
+    return [
+        sum((each for due, each in zip(sheet, sums) if due[1] == member), Fraction(0)) for member in range(len(lays))
+    ]
+
+
+def owes_by_hand(many, sheet):
+    return [sum(due[3] for due in sheet if due[0] == member) for member in range(many)]
+
+
+def next_by_hand(sheet, purses, lays):
+    owed = owes_by_hand(len(purses), sheet)
+    return [min(Fraction(one), purse + gain) for one, purse, gain in zip(owed, purses, got_by_hand(sheet, lays))]
