@@ -21,6 +21,16 @@ def shares_paid(owed, lay):
     return shares
 
 
+def stop_of(owed, lay):
+    """The first rank that the lay doesn't pay in full; None where it pays all that is owed."""
+    end = 0
+    for rank, here in enumerate(owed):
+        end += here
+        if under(lay, (end, 1)):
+            return rank
+    return None
+
+
 def got(sheet, lays):
     gains = [[] for lay in lays]
     for number, gain in enumerate(paid(sheet, lays)):

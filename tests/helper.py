@@ -101,3 +101,28 @@ def owes_by_hand(many, sheet):
 def next_by_hand(sheet, purses, lays):
     owed = owes_by_hand(len(purses), sheet)
     return [min(Fraction(one), purse + gain) for one, purse, gain in zip(owed, purses, got_by_hand(sheet, lays))]
+
+
+def stops_by_hand(sheet, lays):
+    """The words of promise 21."""
+    told = []
+    for member, lay in enumerate(lays):
+        sums = [sum(due[3] for due in sheet if due[0] == member and due[2] <= rank) for rank in range(3)]
+        told.append(next((rank for rank in range(3) if lay < sums[rank]), None))
+    return told
+
+
+def has_roads(sheet, lays):
+    """Whether by these lays each member with a stop has a road (promise 22)."""
+    stops = stops_by_hand(sheet, lays)
+    arrived = {member for member, stop in enumerate(stops) if stop is None}
+    for turn in stops:
+        for payer, payee, rank, amount in sheet:
+            if amount > 0 and rank == stops[payer] and payee in arrived:
+                arrived.add(payer)
+    return len(arrived) == len(stops)
+
+
+def some_purses(chance, many, most):
+    """Purses by chance, many of them empty."""
+    return [chance.choice((0, 0, chance.randrange(most + 1), chance.randrange(most // 4 + 1))) for member in range(many)]
