@@ -29,13 +29,10 @@ def check_coins(coins, bounds):
 
 
 def level_of(coins, bounds):
-    """The greatest level by which the lesser of each bound and the level come to no more than the coins.
-
-    The coins are fewer than all bounds together.
-    """
     rest = coins
     bearers = len(bounds)
-    # From the least bound on: one that lies at or below what is there for each is borne whole.
+    # From the least bound on: one that lies at or below what is there for each is borne whole. The coins are fewer
+    # than all bounds together, so this ends ahead of the last bearer.
     for bound in sorted(bounds):
         if bound * bearers > rest:
             break
@@ -45,7 +42,6 @@ def level_of(coins, bounds):
 
 
 def with_one_more(borne, chosen, left_over):
-    """What is borne, with one coin more for the first of the chosen, as long as coins are left over."""
     made = []
     rest = left_over
     for number, coins in enumerate(borne):

@@ -35,7 +35,7 @@ def cleared(sheet, purses):
 
 
 def flows_of(sheet, ranks):
-    """By payer, then by payee: the sums of its dues in the rank where it stands; 0 for one that falls short nowhere."""
+    # One that pays in full lays out no more, so its flows stay 0.
     flows = [[0] * len(ranks) for rank in ranks]
     for payer, payee, rank, amount in sheet:
         if rank == ranks[payer]:
@@ -44,7 +44,7 @@ def flows_of(sheet, ranks):
 
 
 def closed_circle(flows, ranks):
-    """A smallest set of short members whose flows all stay within it; [] where there is none."""
+    # All that a member reaches has to be in its circle; and one of the smallest has no smaller one in it.
     circles = []
     for member in range(len(ranks)):
         reached = reach_of(flows, member)
@@ -54,7 +54,6 @@ def closed_circle(flows, ranks):
 
 
 def reach_of(flows, member):
-    """The member and all that its flows come to, however many steps on."""
     reached = [member]
     place = 0
     while place < len(reached):
@@ -65,7 +64,8 @@ def reach_of(flows, member):
 
 
 def balances(flows, members):
-    """For each member a row: what it lays out less what it gets, for each one's growth told as a share of its rank."""
+    # Each row is what a member lays out less what it gets. Growth is told as a share of the rank where one stands: so
+    # all numbers in the rows are whole.
     rows = [[(-flows[other][member], 1) for other in members] for member in members]
     for place, member in enumerate(members):
         rows[place][place] = (sum(flows[member]), 1)
@@ -73,7 +73,6 @@ def balances(flows, members):
 
 
 def circling_rates(flows, circle):
-    """The proportion in which each of the circle gets just what it lays out."""
     rows = balances(flows, circle)
     right = [(0, 1) for member in circle]
     # One balance follows from the others, and only a proportion is asked: the first share may be set to 1.
@@ -83,7 +82,7 @@ def circling_rates(flows, circle):
 
 
 def opening_rates(flows, ranks, purses):
-    """How fast lays grow, as the purses are opened, where each short member lays out all that comes to it."""
+    # There is no closed circle here: from each short member coins find a way out, and so there is just one answer.
     short = [member for member, rank in enumerate(ranks) if rank is not None]
     right = [(purses[member], 1) for member in short]
     return rates_of(flows, short, solved(balances(flows, short), right))
@@ -97,7 +96,6 @@ def rates_of(flows, members, shares):
 
 
 def least_room(owed, ranks, lays, rates):
-    """How far lays may grow at these rates until a rank is paid in full; None where none grows."""
     room = None
     for member, rate in enumerate(rates):
         if rate[0] > 0:
@@ -116,6 +114,5 @@ def ends_of(sheet, purses):
 
 
 def ends_by(sheet, purses, lays):
-    """What each member ends with by these lays: its purse with what it gets, less its lay."""
     gains = got(sheet, lays)
     return [minus(plus((purse, 1), gains[member]), lays[member]) for member, purse in enumerate(purses)]

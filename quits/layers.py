@@ -34,7 +34,6 @@ def check_order(order):
 
 
 def borne_in(word, rests, pledges, shares, own, whole):
-    """What each member bears, and at last the house; whole tells who had no gap from the beginning."""
     if word == "pledge":
         return [min(rest, pledges[member]) for member, rest in enumerate(rests)] + [0]
     if word == "share":
@@ -49,7 +48,6 @@ def borne_in(word, rests, pledges, shares, own, whole):
 
 
 def given_in(word, rests, borne):
-    """What each member is given: what it bears itself, or its share of what others bear."""
     if word in ("pledge", "share"):
         return borne[:-1]
     return by_shares(sum(borne), rests)

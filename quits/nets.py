@@ -18,7 +18,6 @@ def paired(many, sheet):
 
 
 def sums_between(many, sheet, rank):
-    """What each member owes each other one in the rank: by payer, then by payee."""
     between = [[0] * many for member in range(many)]
     for due in sheet:
         if due[2] == rank:

@@ -11,7 +11,6 @@ def paid(sheet, lays):
 
 
 def shares_paid(owed, lay):
-    """Which share of each rank's sum is paid; 0 where nothing is owed in the rank."""
     shares = []
     rest = lay
     for here in owed:
@@ -22,7 +21,6 @@ def shares_paid(owed, lay):
 
 
 def stop_of(owed, lay):
-    """The first rank that the lay doesn't pay in full; None where it pays all that is owed."""
     end = 0
     for rank, here in enumerate(owed):
         end += here
@@ -50,7 +48,6 @@ def are_lays(sheet, lays):
 
 
 def next_lays(sheet, purses, lays):
-    """For each member the lesser of what it owes, and its purse with what it gets by these lays."""
     owed = owes(len(lays), sheet)
     gains = got(sheet, lays)
     return [least((owed[member], 1), plus((purse, 1), gains[member])) for member, purse in enumerate(purses)]

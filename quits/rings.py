@@ -18,7 +18,8 @@ def a_ring(many, sheet):
 
 
 def ways_onward(many, sheet):
-    """For each member the number of a due to one that has a way onward too; None where every walk comes to an end."""
+    # A member from which every walk comes to an end lies in no ring. Where all these are gone, each due leads to a
+    # member that has a due onward too, so a walk never ends and has to come back to itself.
     going = [True] * many
     onward = [None] * many
     # A turn without change is the last that matters, and each other one stops a member: so many turns are enough.
@@ -29,7 +30,6 @@ def ways_onward(many, sheet):
 
 
 def dues_among(sheet, going):
-    """For each member that is going the number of a due above 0 to another such one; None where there is none."""
     onward = [None] * len(going)
     for number, due in enumerate(sheet):
         if due[3] > 0 and going[due[0]] and going[due[1]]:
@@ -48,7 +48,7 @@ def lined(many, sheet):
 
 
 def free_members(many, sheet, line):
-    """The members outside the line to whom nobody outside it owes anything."""
+    # Whoever is in the line is ahead already: only the dues of those outside it keep a member waiting.
     waiting = list(line)
     for due in sheet:
         if due[3] > 0 and due[0] not in line:

@@ -17,7 +17,6 @@ def roads(sheet, purses):
 
 
 def first_dues(sheet, ranks):
-    """For each member with a stop the number of the due with which its road begins, None for the others."""
     onward = [None] * len(ranks)
     arrived = [rank is None for rank in ranks]
     # A road is only led to a member that has arrived already, so none comes back to itself. Each turn lets one more

@@ -18,7 +18,7 @@ def solved(rows, right):
 
 
 def whole_row(row):
-    """An equation times the least number that makes all its parts whole."""
+    # An equation stays true times any number but 0.
     common = 1
     for top, bottom in row:
         common = common // divisor(common, bottom) * bottom
@@ -26,7 +26,7 @@ def whole_row(row):
 
 
 def with_first(table, place):
-    """The rows with one at this place that holds the unknown of this place, from those at or behind it."""
+    # The rows ahead of this place are done with; of the others any one that holds its unknown will do.
     for found in range(place, len(table)):
         if table[found][place] != 0:
             swapped = list(table)
@@ -37,7 +37,6 @@ def with_first(table, place):
 
 
 def swept(table, place, before):
-    """The rows with the unknown of this place gone from all but the one at this place."""
     sweeper = table[place]
     made = []
     for number, row in enumerate(table):

@@ -14,7 +14,7 @@ def thinned(many, sheet):
 
 
 def steps_of(sheet, left):
-    """The steps (start, end, number, sign) that may be gone: along a due that has room, back along one that is used."""
+    # A due that is used may also be gone back along: so what an earlier way did can still be put right.
     steps = []
     for number, due in enumerate(sheet):
         if left[number] < due[3]:
@@ -25,7 +25,6 @@ def steps_of(sheet, left):
 
 
 def shortest_way(many, sheet, left, wanting):
-    """The steps, the last one first, of a shortest way from a member that has to send to one that has to get."""
     far = [0 if want < 0 else None for want in wanting]
     last_steps = [None] * many
     steps = steps_of(sheet, left)
@@ -52,7 +51,7 @@ def way_back(end, last_steps):
 
 
 def send(sheet, left, wanting, way):
-    """Sends along the way all that it has room for; left and wanting are brought up to it."""
+    # The way is told from its end back.
     start = way[-1][0]
     end = way[0][1]
     room = min(wanting[end], -wanting[start])
@@ -68,7 +67,7 @@ def send(sheet, left, wanting, way):
 
 
 def heights_of(many, sheet, left):
-    """The lengths of shortest ways to each member, from wherever they are shortest."""
+    # Along a step no shortest way grows by more than the step: this is just what is asked of heights.
     heights = [0] * many
     steps = steps_of(sheet, left)
     for turn in range(many):

@@ -91,6 +91,8 @@ def import_faults(tree):
 
 
 def statement_faults(node):
+    if isinstance(node, ast.FunctionDef) and is_docstring(node.body[0]):
+        yield "L6 a text by itself"
     if isinstance(node, ast.stmt) and not isinstance(node, STATEMENTS):
         yield "L6 " + type(node).__name__
     if isinstance(node, ast.Assign) and len(node.targets) != 1:
@@ -328,6 +330,7 @@ class RulesTest(unittest.TestCase):
             ("L5", "class A:\n    k = 1\n"),
             ("L6", "def f(x):\n    assert x\n"),
             ("L6", "def f(x):\n    a = b = x\n    return a + b\n"),
+            ("L6", "def f(x):\n    'words'\n    return x\n"),
             ("L7", "def f(x):\n    return x / 2\n"),
             ("L7", "def f(x):\n    return {k: 1 for k in x}\n"),
             ("L8", "def f(x):\n    return hash(x)\n"),

@@ -117,6 +117,8 @@ class ClearingTest(unittest.TestCase):
             with self.subTest(lays=lays):
                 self.assertIs(is_clearing(sheet, [0, 0], lays), False)
                 self.assertIs(is_clearing(sheet, [9, 9], lays), False)
+        # These would follow from themselves, if they were lays.
+        self.assertIs(is_clearing(whole_ring(2, 5), [0, 0], [(-1, 1), (-1, 1)]), False)
         self.assertIs(is_clearing([], [3], [(3, 1)]), False)
         self.assertIs(is_clearing([], [3], [(-3, 1)]), False)
 
